@@ -147,11 +147,30 @@ func TestBackOfWhatNoNumberHas(t *testing.T) {
 	}
 }
 
-// What is at the ends of the parts is between them still.
+// The ends are not between the ends, whatever the other part is; what is one nearer is.
 func TestBackAtTheEnds(t *testing.T) {
-	for _, z := range []complex128{1 << 22, -(1 << 22), 1i * (1 << 22), -1i * (1 << 22), complex(1<<22, 1<<22), complex(-(1 << 22), -(1 << 22))} {
-		if n, e := plane.Back(z); n != 0 || e != api.ErrNone {
-			t.Errorf("Back(%v) = %d, %d", z, n, e)
+	const end = 1 << 22
+	minus := math.Copysign(0, -1)
+	for _, other := range []float64{0, minus, 1, -1, 7, -512, 1 << 20, end - 1, -(end - 1), end, -end, end + 1, 0.5, math.NaN(), math.Inf(-1)} {
+		for _, part := range []float64{end, -end} {
+			for _, z := range []complex128{complex(part, other), complex(other, part)} {
+				if n, e := plane.Back(z); n != 0 || e != api.ErrForm {
+					t.Errorf("Back(%v) = %d, %d", z, n, e)
+				}
+			}
+		}
+	}
+}
+
+func TestBackJustWithinTheEnds(t *testing.T) {
+	const last = 1<<22 - 1
+	for _, other := range []float64{0, 1, -1, 7, -512, 1 << 20, last - 1, last, -last} {
+		for _, part := range []float64{last, -last, last - 1, -(last - 1)} {
+			for _, z := range []complex128{complex(part, other), complex(other, part)} {
+				if n, e := plane.Back(z); n != 0 || e != api.ErrNone {
+					t.Errorf("Back(%v) = %d, %d", z, n, e)
+				}
+			}
 		}
 	}
 }
