@@ -1054,11 +1054,19 @@ func TestPowerLostMeanwhile(t *testing.T) {
 		return d, n
 	}
 	d, n := start()
-	x, e1 := n.Block(1)
-	u, e2 := n.Undo(1)
-	c, e3 := n.Table(1)
-	if len(x) != 0 || len(u.Made) != 0 || c != nil || e1 != api.ErrPower || e2 != api.ErrPower || e3 != api.ErrPower {
-		t.Errorf("Block: %d, Undo: %d, Table: %d", e1, e2, e3)
+	for k := 1; k <= 2; k++ {
+		x, e1 := n.Block(k)
+		u, e2 := n.Undo(k)
+		c, e3 := n.Table(k)
+		if len(x) != 0 || len(u.Made) != 0 || c != nil || e1 != api.ErrPower || e2 != api.ErrPower || e3 != api.ErrPower {
+			t.Errorf("Block(%d): %d, Undo: %d, Table: %d", k, e1, e2, e3)
+		}
+	}
+	if c, e := n.Table(0); c != nil || e != api.ErrPower {
+		t.Errorf("Table(0): %d", e)
+	}
+	if _, e := n.Table(3); e != api.ErrArg {
+		t.Errorf("Table(3): %d", e)
 	}
 	// No delivery has met it: when it is there again, all goes on.
 	d.On(0, 0)

@@ -493,6 +493,10 @@ func TestWithoutPower(t *testing.T) {
 		for _, e := range []api.Errno{e1, e2, e3, s.Save(nil), s.Save([]byte("state"))} {
 			ok(t, "without power", e, api.ErrPower)
 		}
+		_, e1 = records(t, s, 1)
+		ok(t, "Records of a file without any", e1, api.ErrPower)
+		_, e1 = records(t, s, 2)
+		ok(t, "Records", e1, api.ErrArg)
 		_, e1 = app(t, s, 2, nil)
 		ok(t, "Append", e1, api.ErrArg)
 		_, e1 = app(t, s, 0, make([]byte, 9999))
