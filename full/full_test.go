@@ -15,11 +15,9 @@ import (
 	"moneyer/full"
 	"moneyer/head"
 	"moneyer/mint"
-	"moneyer/rule"
 	"moneyer/store"
 	"moneyer/table"
 	"moneyer/target"
-	"moneyer/tree"
 	"moneyer/undo"
 )
 
@@ -150,193 +148,27 @@ func TestExamplesOfTheWhole(t *testing.T) {
 	}
 }
 
-// A model keeps nothing but the blocks that hold, and works out coins from the beginning each time.
-type model struct {
-	tree    *tree.Tree
-	blocks  []api.Block
-	refused []api.Hash
-	pool    []api.Block
-}
-
-func newModel() *model { return &model{tree: tree.New(), blocks: []api.Block{{}}} }
-
-func (m *model) coins(n int) map[api.Point]api.Coin {
-	l := map[api.Point]api.Coin{}
-	chain, _ := m.tree.Chain(n)
-	for _, k := range chain[1:] {
-		height := uint32(slices.Index(chain, k))
-		points, _ := check.Outside(m.blocks[k], height)
-		for _, p := range points {
-			delete(l, p)
-		}
-		made, _ := check.Made(m.blocks[k], height)
-		for _, c := range made {
-			l[c.Point] = c
-		}
-	}
-	return l
-}
-
-func sorted(l map[api.Point]api.Coin) []api.Coin {
-	var all []api.Coin
-	for _, c := range l {
-		all = append(all, c)
-	}
-	slices.SortFunc(all, func(a, b api.Coin) int {
-		if coin.Less(a.Point, b.Point) {
-			return -1
-		}
-		return 1
-	})
-	return all
-}
-
-func (m *model) tip() (api.Hash, uint32) {
-	k, _ := m.tree.Known(m.tree.Best())
-	return k.Id, k.Height
-}
-
-func (m *model) deliver(x []byte) api.Reply {
-	said, why := m.said(x)
-	id, height := m.tip()
-	return api.Reply{Said: said, Why: why, Tip: id, Height: height}
-}
-
-func (m *model) said(x []byte) (int, api.Errno) {
-	b, e := block.Read(x)
-	if e == api.OK {
-		e = rule.Block(b)
-	}
-	if e != api.OK {
-		return api.SaidForm, e
-	}
-	id := idOf(b)
-	if _, e := m.tree.Find(id); e == api.OK {
-		return api.SaidOld, api.ErrTwice
-	}
-	if slices.Contains(m.refused, id) {
-		return api.SaidRule, api.ErrTwice
-	}
-	if slices.Contains(m.refused, b.Head.Prev) {
-		m.refused = append(m.refused, id)
-		return api.SaidRule, api.ErrRule
-	}
-	parent, e := m.tree.Find(b.Head.Prev)
-	if e != api.OK {
-		return api.SaidOrphan, api.ErrNone
-	}
-	c, _ := m.tree.Ctx(parent)
-	points, _ := check.Outside(b, c.Height)
-	coins := m.coins(parent)
-	var spent []api.Coin
-	for _, p := range points {
-		one, ok := coins[p]
-		if !ok {
-			m.refused = append(m.refused, id)
-			return api.SaidRule, api.ErrNone
-		}
-		spent = append(spent, one)
-	}
-	if _, e := check.Block(b, c, spent); e != api.OK {
-		m.refused = append(m.refused, id)
-		return api.SaidRule, e
-	}
-	m.tree.Add(b.Head)
-	m.blocks = append(m.blocks, b)
-	return api.SaidNew, api.OK
-}
-
-// some makes a block upon one that the model has, or upon one of those that were made; mostly one that holds.
-func (m *model) some(r *rand.Rand) api.Block {
-	parent := m.tree.Best()
-	if r.Intn(3) == 0 {
-		parent = r.Intn(m.tree.Len())
-	}
-	c, _ := m.tree.Ctx(parent)
-	coins := sorted(m.coins(parent))
-	f := mint.First(c.Height, mint.Free(uint64(r.Intn(1000)), target.Subsidy(c.Height)/2)[:r.Intn(3)]...)
-	txs := []api.Tx{f}
-	r.Shuffle(len(coins), func(i, k int) { coins[i], coins[k] = coins[k], coins[i] })
-	for range r.Intn(3) {
-		var from []api.Coin
-		worth := uint64(0)
-		for len(coins) > 0 && r.Intn(3) > 0 {
-			one := coins[0]
-			coins = coins[1:]
-			if one.Base && one.Point.Height+api.Maturity > c.Height && r.Intn(20) > 0 {
-				continue
-			}
-			from = append(from, one)
-			worth += one.Value
-		}
-		if r.Intn(30) == 0 {
-			from = append(from, api.Coin{Point: api.Point{Tx: api.Hash{byte(r.Intn(9))}}})
-		}
-		if len(from) == 0 {
-			continue
-		}
-		if r.Intn(30) == 0 {
-			worth++
-		}
-		half := worth / 2
-		x := mint.Spend(from, mint.Free(half, worth-half)...)
-		if r.Intn(4) == 0 && len(x.Outs) > 0 {
-			x.Outs[0] = mint.Locked(x.Outs[0].Value, api.Hash{1})
-		}
-		for i, one := range from {
-			if len(one.Lock) > 2 && r.Intn(9) > 0 {
-				x = mint.Signed(x, i, one, api.Hash{1})
-			}
-		}
-		txs = append(txs, x)
-		if r.Intn(2) == 0 && x.Outs[1].Value > 0 {
-			// A coin that is made and spent in one block.
-			txs = append(txs, mint.Spend([]api.Coin{mint.Coin(x, 1, c.Height)}, mint.Free(x.Outs[1].Value)...))
-		}
-	}
-	b := mint.Block(c, txs...)
-	switch r.Intn(25) {
-	case 0:
-		b.Head.Time = c.Time
-	case 1:
-		b.Head.Bits = 0x2012ffff
-	case 2:
-		b.Txs[0].After++
-	case 3:
-		b.Head.Prev[0]++
-	case 4:
-		b.Txs = append(b.Txs, b.Txs[0])
-	case 5:
-		b.Head.Time += uint32(r.Intn(2000))
-	}
-	b = mint.Mined(b)
-	if r.Intn(25) == 0 {
-		b.Head.Nonce++
-	}
-	return b
-}
-
 // hold holds a node against the model, in all that can be asked.
-func hold(t *testing.T, n *full.Node, m *model) {
+func hold(t *testing.T, n *full.Node, m *mint.Model) {
 	t.Helper()
 	id, height := n.Tip()
-	wantId, wantHeight := m.tip()
+	wantId, wantHeight := m.Tip()
 	if id != wantId || height != wantHeight {
 		t.Fatalf("Tip = %x, %d", id, height)
 	}
-	if !sameCoins(n.Coins(), sorted(m.coins(m.tree.Best()))) {
-		t.Fatalf("Coins = %v, not %v", n.Coins(), sorted(m.coins(m.tree.Best())))
+	if !sameCoins(n.Coins(), m.Coins(m.Tree.Best())) {
+		t.Fatalf("Coins = %v, not %v", n.Coins(), m.Coins(m.Tree.Best()))
 	}
-	if !slices.Equal(n.Refused(), m.refused) {
+	if !slices.Equal(n.Refused(), m.Refused) {
 		t.Fatalf("Refused = %x", n.Refused())
 	}
 	x := n.Tree()
-	if x.Len() != m.tree.Len() || x.Best() != m.tree.Best() {
+	if x.Len() != m.Tree.Len() || x.Best() != m.Tree.Best() {
 		t.Fatalf("Tree: %d, %d", x.Len(), x.Best())
 	}
 	for k := range x.Len() {
 		a, _ := x.Known(k)
-		b, _ := m.tree.Known(k)
+		b, _ := m.Tree.Known(k)
 		if a != b {
 			t.Fatalf("Known(%d) = %v", k, a)
 		}
@@ -344,11 +176,11 @@ func hold(t *testing.T, n *full.Node, m *model) {
 	holdBlocks(t, n, m)
 }
 
-func holdBlocks(t *testing.T, n *full.Node, m *model) {
+func holdBlocks(t *testing.T, n *full.Node, m *mint.Model) {
 	t.Helper()
-	for k := range m.tree.Len() {
+	for k := range m.Tree.Len() {
 		c, e := n.Table(k)
-		if e != api.OK || !sameCoins(c.All(), sorted(m.coins(k))) {
+		if e != api.OK || !sameCoins(c.All(), m.Coins(k)) {
 			t.Fatalf("Table(%d): %d", k, e)
 		}
 		b, e1 := n.Block(k)
@@ -359,15 +191,15 @@ func holdBlocks(t *testing.T, n *full.Node, m *model) {
 			}
 			continue
 		}
-		known, _ := m.tree.Known(k)
+		known, _ := m.Tree.Known(k)
 		at := table.New()
-		for _, one := range sorted(m.coins(known.Parent)) {
+		for _, one := range m.Coins(known.Parent) {
 			at.Put(one)
 		}
-		points, _ := check.Outside(m.blocks[k], known.Height)
-		made, _ := check.Made(m.blocks[k], known.Height)
+		points, _ := check.Outside(m.Blocks[k], known.Height)
+		made, _ := check.Made(m.Blocks[k], known.Height)
 		want, _ := undo.Do(at, points, made)
-		if !bytes.Equal(b, text(t, m.blocks[k])) || e1 != api.OK || !undo.Same(u, want) || e2 != api.OK {
+		if !bytes.Equal(b, text(t, m.Blocks[k])) || e1 != api.OK || !undo.Same(u, want) || e2 != api.OK {
 			t.Fatalf("Block(%d) = %x, %d, Undo = %v, %d", k, b, e1, u, e2)
 		}
 	}
@@ -378,11 +210,11 @@ func TestAgainstTheModel(t *testing.T) {
 	for seed := range int64(8) {
 		r := rand.New(rand.NewSource(seed))
 		d := device(t, 4096)
-		n, m := open(t, d), newModel()
+		n, m := open(t, d), mint.NewModel()
 		counts := map[int]int{}
 		var later [][]byte
 		for i := range 90 {
-			b := m.some(r)
+			b := m.Some(r.Intn)
 			x, e := block.Put(b)
 			if e != api.OK {
 				continue
@@ -403,10 +235,10 @@ func TestAgainstTheModel(t *testing.T) {
 					x = bytes.Clone(x)
 					x[r.Intn(len(x))] ^= byte(1 << r.Intn(8))
 				}
-				if len(m.refused) == api.MaxBad {
+				if len(m.Refused) == api.MaxBad {
 					break
 				}
-				got, want := n.Deliver(x), m.deliver(x)
+				got, want := n.Deliver(x), m.Deliver(x)
 				if got != want {
 					t.Fatalf("Deliver = %v, not %v", got, want)
 				}
@@ -445,25 +277,25 @@ func TestAgainstTheModel(t *testing.T) {
 // A long side chain takes over, and back: the coins go with it.
 func TestForks(t *testing.T) {
 	d := device(t, 2048)
-	n, m := open(t, d), newModel()
+	n, m := open(t, d), mint.NewModel()
 	put := func(b api.Block) {
 		t.Helper()
 		x := text(t, b)
-		if got, want := n.Deliver(x), m.deliver(x); got != want || got.Said != api.SaidNew {
+		if got, want := n.Deliver(x), m.Deliver(x); got != want || got.Said != api.SaidNew {
 			t.Fatalf("Deliver = %v, not %v", got, want)
 		}
 	}
 	grow := func(from, many int, value uint64, spends bool) int {
 		for i := range many {
-			c, _ := m.tree.Ctx(from)
+			c, _ := m.Tree.Ctx(from)
 			txs := []api.Tx{mint.First(c.Height, mint.Free(value, uint64(i))...)}
-			for _, one := range sorted(m.coins(from)) {
+			for _, one := range m.Coins(from) {
 				if spends && one.Point.Height+api.Maturity <= c.Height && len(txs) < 3 {
 					txs = append(txs, mint.Spend([]api.Coin{one}, mint.Free(one.Value)...))
 				}
 			}
 			put(mint.Block(c, txs...))
-			from = m.tree.Len() - 1
+			from = m.Tree.Len() - 1
 		}
 		return from
 	}
@@ -471,19 +303,19 @@ func TestForks(t *testing.T) {
 	a := grow(trunk, 5, 200, true)
 	b := grow(trunk, 5, 300, true)
 	hold(t, n, m)
-	if id, _ := n.Tip(); m.tree.Best() != a {
+	if id, _ := n.Tip(); m.Tree.Best() != a {
 		t.Errorf("Tip = %x", id)
 	}
 	b = grow(b, 3, 301, true)
 	hold(t, n, m)
 	n = open(t, d)
 	hold(t, n, m)
-	if m.tree.Best() != b {
+	if m.Tree.Best() != b {
 		t.Error("the other chain did not take over")
 	}
 	a = grow(a, 7, 201, false)
 	hold(t, n, m)
-	if m.tree.Best() != a {
+	if m.Tree.Best() != a {
 		t.Error("the first chain did not take over again")
 	}
 	grow(0, 4, 400, true)
@@ -641,7 +473,7 @@ func TestOpen(t *testing.T) {
 
 // P0.1: beyond its room it says SaidFull, and has changed nothing.
 func TestFull(t *testing.T) {
-	same := func(t *testing.T, d *dev.Dev, n *full.Node, m *model) {
+	same := func(t *testing.T, d *dev.Dev, n *full.Node, m *mint.Model) {
 		t.Helper()
 		hold(t, n, m)
 		hold(t, open(t, d), m)
@@ -655,32 +487,32 @@ func TestFull(t *testing.T) {
 			t.Error("the device has changed")
 		}
 	}
-	both := func(t *testing.T, n *full.Node, m *model, b api.Block) {
+	both := func(t *testing.T, n *full.Node, m *mint.Model, b api.Block) {
 		t.Helper()
 		x := text(t, b)
-		if got, want := n.Deliver(x), m.deliver(x); got != want {
+		if got, want := n.Deliver(x), m.Deliver(x); got != want {
 			t.Fatalf("Deliver = %v, not %v", got, want)
 		}
 	}
 	t.Run("blocks", func(t *testing.T) {
 		d := device(t, 4096)
-		n, m := open(t, d), newModel()
+		n, m := open(t, d), mint.NewModel()
 		for range api.MaxBlocks - 1 {
-			c, _ := m.tree.Ctx(m.tree.Len() - 1)
+			c, _ := m.Tree.Ctx(m.Tree.Len() - 1)
 			both(t, n, m, mint.Block(c, mint.First(c.Height)))
 		}
-		c, _ := m.tree.Ctx(m.tree.Len() - 1)
+		c, _ := m.Tree.Ctx(m.Tree.Len() - 1)
 		tooMuch(t, d, n, mint.Block(c, mint.First(c.Height)))
-		c, _ = m.tree.Ctx(0)
+		c, _ = m.Tree.Ctx(0)
 		tooMuch(t, d, n, first(c, 5))
 		// What is refused is refused as ever.
 		both(t, n, m, first(c, api.Subsidy+1))
-		both(t, n, m, m.blocks[7])
+		both(t, n, m, m.Blocks[7])
 		same(t, d, n, m)
 	})
 	t.Run("ids", func(t *testing.T) {
 		d := device(t, 4096)
-		n, m := open(t, d), newModel()
+		n, m := open(t, d), mint.NewModel()
 		both(t, n, m, first(mint.Begin(), 5))
 		bad := first(mint.Begin(), api.Subsidy+1)
 		both(t, n, m, bad)
@@ -704,36 +536,36 @@ func TestFull(t *testing.T) {
 	})
 	t.Run("coins", func(t *testing.T) {
 		d := device(t, api.MaxSectors)
-		n, m := open(t, d), newModel()
+		n, m := open(t, d), mint.NewModel()
 		var values []uint64
 		for i := range uint64(16) {
 			values = append(values, i*1000)
 		}
 		for range api.MaxCoins / 16 {
-			c, _ := m.tree.Ctx(m.tree.Len() - 1)
+			c, _ := m.Tree.Ctx(m.Tree.Len() - 1)
 			both(t, n, m, first(c, values...))
 		}
-		tip := m.tree.Len() - 1
-		c, _ := m.tree.Ctx(tip)
+		tip := m.Tree.Len() - 1
+		c, _ := m.Tree.Ctx(tip)
 		tooMuch(t, d, n, first(c, 1))
 		// At the block, though it is not the tip.
-		side, _ := m.tree.Ctx(tip - 1)
+		side, _ := m.Tree.Ctx(tip - 1)
 		said(t, n, first(side, append(values, 1)[1:]...), api.SaidNew, api.OK)
 		b, _ := n.Block(tip + 1)
 		x, _ := block.Read(b)
-		m.deliver(b)
+		m.Deliver(b)
 		tooMuch(t, d, n, first(mint.Upon(x, side.Height), 1))
 		// As many as are spent may be made.
-		old := sorted(m.coins(tip))[:1]
+		old := m.Coins(tip)[:1]
 		both(t, n, m, mint.Block(c, mint.First(c.Height), mint.Spend(old, mint.Free(0)...)))
 		same(t, d, n, m)
 	})
 	t.Run("files", func(t *testing.T) {
 		d := device(t, 64)
-		n, m := open(t, d), newModel()
+		n, m := open(t, d), mint.NewModel()
 		filled := 0
 		for i := range uint64(60) {
-			c, _ := m.tree.Ctx(m.tree.Len() - 1)
+			c, _ := m.Tree.Ctx(m.Tree.Len() - 1)
 			b := first(c)
 			for range i % 3 {
 				b.Txs[0].Outs = append(b.Txs[0].Outs, api.Out{Lock: make([]byte, 90)})
@@ -758,7 +590,7 @@ func TestFull(t *testing.T) {
 				filled++
 				continue
 			}
-			if got, want := n.Deliver(x), m.deliver(x); got != want || got.Said != api.SaidNew {
+			if got, want := n.Deliver(x), m.Deliver(x); got != want || got.Said != api.SaidNew {
 				t.Fatalf("Deliver = %v, not %v", got, want)
 			}
 		}
@@ -770,17 +602,17 @@ func TestFull(t *testing.T) {
 	t.Run("undos", func(t *testing.T) {
 		// What is spent of long locks makes long undos: their file is full, while the others have room.
 		d := device(t, 256)
-		n, m := open(t, d), newModel()
+		n, m := open(t, d), mint.NewModel()
 		long := api.Out{Lock: slices.Concat([]byte{96}, make([]byte, 96), []byte{127 + api.OpDrop, 1, 1})}
 		isFull := false
 		for !isFull {
-			c, _ := m.tree.Ctx(m.tree.Len() - 1)
+			c, _ := m.Tree.Ctx(m.Tree.Len() - 1)
 			b := mint.Block(c, mint.First(c.Height))
 			switch c.Height % 5 {
 			case 0:
 				b = mint.Block(c, mint.First(c.Height, slices.Repeat([]api.Out{long}, 16)...))
 			case 4:
-				if coins := sorted(m.coins(m.tree.Len() - 1)); len(coins) > 0 {
+				if coins := m.Coins(m.Tree.Len() - 1); len(coins) > 0 {
 					b = mint.Block(c, mint.First(c.Height), mint.Spend(coins))
 				}
 			}
@@ -791,7 +623,7 @@ func TestFull(t *testing.T) {
 			r := n.Deliver(x)
 			isFull = r.Said == api.SaidFull
 			if !isFull {
-				if want := m.deliver(x); r != want {
+				if want := m.Deliver(x); r != want {
 					t.Fatalf("Deliver = %v, not %v", r, want)
 				}
 			} else if room < len(x) || undoRoom > 3000 || !bytes.Equal(d.Image(), was) {
@@ -803,18 +635,18 @@ func TestFull(t *testing.T) {
 	t.Run("state", func(t *testing.T) {
 		// A refused id for which the state has no room.
 		d := device(t, 64)
-		n, m := open(t, d), newModel()
+		n, m := open(t, d), mint.NewModel()
 		i := uint64(0)
 		for ; ; i++ {
 			b := first(mint.Begin(), api.Subsidy+1+i)
-			if 1+32*(len(m.refused)+1)+1 > 8*128-16 {
+			if 1+32*(len(m.Refused)+1)+1 > 8*128-16 {
 				tooMuch(t, d, n, b)
 				break
 			}
 			both(t, n, m, b)
 		}
-		if len(m.refused) != 31 {
-			t.Errorf("%d are refused", len(m.refused))
+		if len(m.Refused) != 31 {
+			t.Errorf("%d are refused", len(m.Refused))
 		}
 		tooMuch(t, d, n, first(mint.Begin(), 5))
 		both(t, n, m, first(mint.Begin()))
@@ -829,7 +661,7 @@ func lockOf(size int) []byte {
 
 // The edges of its room: what just fits is taken, a byte more is not.
 func TestJustFull(t *testing.T) {
-	put := func(t *testing.T, n *full.Node, m *model, b api.Block, want int) {
+	put := func(t *testing.T, n *full.Node, m *mint.Model, b api.Block, want int) {
 		t.Helper()
 		x := text(t, b)
 		r := n.Deliver(x)
@@ -837,11 +669,11 @@ func TestJustFull(t *testing.T) {
 			t.Fatalf("Deliver = %v, not %d", r, want)
 		}
 		if want != api.SaidFull {
-			m.deliver(x)
+			m.Deliver(x)
 		}
 	}
-	locked := func(m *model, sizes ...int) api.Block {
-		c, _ := m.tree.Ctx(m.tree.Len() - 1)
+	locked := func(m *mint.Model, sizes ...int) api.Block {
+		c, _ := m.Tree.Ctx(m.Tree.Len() - 1)
 		var outs []api.Out
 		for _, size := range sizes {
 			outs = append(outs, api.Out{Lock: lockOf(size)})
@@ -850,7 +682,7 @@ func TestJustFull(t *testing.T) {
 	}
 	t.Run("state", func(t *testing.T) {
 		d := device(t, 64)
-		n, m := open(t, d), newModel()
+		n, m := open(t, d), mint.NewModel()
 		for i := range uint64(28) {
 			put(t, n, m, first(mint.Begin(), api.Subsidy+1+i), api.SaidRule)
 		}
@@ -865,7 +697,7 @@ func TestJustFull(t *testing.T) {
 	})
 	t.Run("blocks", func(t *testing.T) {
 		d := device(t, 64)
-		n, m := open(t, d), newModel()
+		n, m := open(t, d), mint.NewModel()
 		for range 30 {
 			put(t, n, m, locked(m), api.SaidNew)
 		}
@@ -879,15 +711,15 @@ func TestJustFull(t *testing.T) {
 	})
 	t.Run("undos", func(t *testing.T) {
 		d := device(t, 512)
-		n, m := open(t, d), newModel()
+		n, m := open(t, d), mint.NewModel()
 		left := func() int {
 			s, _ := store.Open(d)
 			return 2*64*128 - s.Length(api.FileUndos)
 		}
 		// spend answers a block that spends the first coin of that lock, and makes so many.
 		spend := func(size, makes int) api.Block {
-			c, _ := m.tree.Ctx(m.tree.Len() - 1)
-			for _, one := range sorted(m.coins(m.tree.Len() - 1)) {
+			c, _ := m.Tree.Ctx(m.Tree.Len() - 1)
+			for _, one := range m.Coins(m.Tree.Len() - 1) {
 				if len(one.Lock) == size && one.Point.Height+api.Maturity <= c.Height {
 					return mint.Block(c, mint.First(c.Height, mint.Free(make([]uint64, makes)...)...), mint.Spend([]api.Coin{one}))
 				}
@@ -900,13 +732,13 @@ func TestJustFull(t *testing.T) {
 			put(t, n, m, locked(m, sizes[from:from+13]...), api.SaidNew)
 		}
 		for left() > 500 {
-			c, _ := m.tree.Ctx(m.tree.Len() - 1)
+			c, _ := m.Tree.Ctx(m.Tree.Len() - 1)
 			b := locked(m)
 			if c.Height%5 == 0 {
 				b = locked(m, slices.Repeat([]int{100}, 8)...)
 			}
 			var long []api.Coin
-			for _, one := range sorted(m.coins(m.tree.Len() - 1)) {
+			for _, one := range m.Coins(m.Tree.Len() - 1) {
 				if len(one.Lock) == 100 && one.Point.Height+api.Maturity <= c.Height && len(long) < 2 {
 					long = append(long, one)
 				}
@@ -932,42 +764,42 @@ func TestJustFull(t *testing.T) {
 func TestPower(t *testing.T) {
 	r := rand.New(rand.NewSource(7))
 	// The walk: blocks with a fork, a refused one, and one that takes over.
-	m := newModel()
+	m := mint.NewModel()
 	var walk [][]byte
 	put := func(b api.Block) int {
 		walk = append(walk, text(t, b))
-		m.deliver(text(t, b))
-		return m.tree.Len() - 1
+		m.Deliver(text(t, b))
+		return m.Tree.Len() - 1
 	}
 	at := 0
 	for i := range 6 {
-		c, _ := m.tree.Ctx(at)
+		c, _ := m.Tree.Ctx(at)
 		at = put(first(c, 100, uint64(i)))
 	}
-	c, _ := m.tree.Ctx(at)
+	c, _ := m.Tree.Ctx(at)
 	put(first(c, api.Subsidy+1))
-	side, _ := m.tree.Ctx(at - 2)
+	side, _ := m.Tree.Ctx(at - 2)
 	x := put(first(side, 7))
 	for range 3 {
-		c, _ := m.tree.Ctx(x)
-		old := sorted(m.coins(x))
+		c, _ := m.Tree.Ctx(x)
+		old := m.Coins(x)
 		old = slices.DeleteFunc(old, func(one api.Coin) bool { return one.Point.Height+api.Maturity > c.Height })
 		x = put(mint.Block(c, mint.First(c.Height, mint.Free(9)...), mint.Spend(old[:1], mint.Free(old[0].Value)...)))
 	}
-	if m.tree.Best() != x {
+	if m.Tree.Best() != x {
 		t.Fatal("the side chain did not take over")
 	}
 	// After each delivery: how many writes there were, and what the node is.
 	d := device(t, 256)
 	n := open(t, d)
 	writes := []int{d.Writes()}
-	models := []*model{newModel()}
+	models := []*mint.Model{mint.NewModel()}
 	for i, b := range walk {
 		n.Deliver(b)
 		writes = append(writes, d.Writes())
-		next := newModel()
+		next := mint.NewModel()
 		for _, b := range walk[:i+1] {
-			next.deliver(b)
+			next.Deliver(b)
 		}
 		models = append(models, next)
 	}
@@ -991,7 +823,7 @@ func TestPower(t *testing.T) {
 			if again := n.Deliver(nil); again != reply {
 				t.Fatalf("Deliver again = %v", again)
 			}
-			if nowId, nowHeight := n.Tip(); nowId != id || nowHeight != height || !slices.Equal(n.Refused(), models[k].refused) || n.Tree().Len() != models[k].tree.Len() || !sameCoins(n.Coins(), sorted(models[k].coins(models[k].tree.Best()))) {
+			if nowId, nowHeight := n.Tip(); nowId != id || nowHeight != height || !slices.Equal(n.Refused(), models[k].Refused) || n.Tree().Len() != models[k].Tree.Len() || !sameCoins(n.Coins(), models[k].Coins(models[k].Tree.Best())) {
 				t.Fatal("without power a node tells something else")
 			}
 			_, e1 := n.Block(1)
@@ -1021,7 +853,7 @@ func TestPower(t *testing.T) {
 		}
 		d.On(99, 0)
 		n = open(t, d)
-		if is := n.Tree().Len() == models[k].tree.Len() && len(n.Refused()) == len(models[k].refused); is {
+		if is := n.Tree().Len() == models[k].Tree.Len() && len(n.Refused()) == len(models[k].Refused); is {
 			ahead++
 			hold(t, n, models[k])
 		} else {
@@ -1138,18 +970,18 @@ func TestNil(t *testing.T) {
 
 // The rules that hold everywhere: what is handed in stays as it is, what is answered is new memory.
 func TestMemory(t *testing.T) {
-	n, m := open(t, device(t, 512)), newModel()
+	n, m := open(t, device(t, 512)), mint.NewModel()
 	room := append(text(t, first(mint.Begin(), 10, 20)), 1, 2, 3)
 	was := bytes.Clone(room)
 	x := room[:len(room)-3]
-	m.deliver(bytes.Clone(x))
+	m.Deliver(bytes.Clone(x))
 	n.Deliver(x)
 	if !bytes.Equal(room, was) {
 		t.Error("what was delivered has changed")
 	}
 	bad := text(t, first(mint.Begin(), api.Subsidy+1))
 	n.Deliver(bad)
-	m.deliver(bad)
+	m.Deliver(bad)
 	for i := range room {
 		room[i] ^= 255
 	}
@@ -1167,7 +999,7 @@ func TestMemory(t *testing.T) {
 	for _, k := range []int{0, 1} {
 		c, _ := n.Table(k)
 		c.Put(api.Coin{Value: 1})
-		c.Take(mint.Coin(m.blocks[1].Txs[0], 0, 1).Point)
+		c.Take(mint.Coin(m.Blocks[1].Txs[0], 0, 1).Point)
 	}
 	b, _ := n.Block(1)
 	u, _ := n.Undo(1)
