@@ -228,9 +228,11 @@ func TestSpends(t *testing.T) {
 		c, _ := m.Tree.Ctx(m.Tree.Len() - 1)
 		put(first(c, slices.Repeat([]uint64{10 + i}, max(0, 3-2*int(i)))...))
 	}
-	c, _ := m.Tree.Ctx(m.Tree.Len() - 1)
 	coins := m.Coins(m.Tree.Len() - 1)
-	put(mint.Block(c, mint.First(c.Height), mint.Spend(coins)))
+	for _, spent := range [][]api.Coin{coins[:1], coins[1:]} {
+		c, _ := m.Tree.Ctx(m.Tree.Len() - 1)
+		put(mint.Block(c, mint.First(c.Height), mint.Spend(spent)))
+	}
 	d1, _ := dev.New(512)
 	d2, _ := dev.New(512)
 	b, _ := bridge.Open(d1)
@@ -251,12 +253,15 @@ func TestSpends(t *testing.T) {
 		if e != api.OK || s.Deliver(y).Said != api.SaidNew {
 			t.Fatalf("Attach: %d", e)
 		}
+		if _, _, p, _ := bridge.Unpack(y); slices.Contains(p.Values, api.Given{Kind: api.GivenHeld}) != (i > 5) {
+			t.Errorf("the proof of %d is %v", i, p)
+		}
 		for _, h := range s.Held() {
 			rows = append(rows, fmt.Sprintf("%d:%d", h.Place.Row, h.Place.At))
 		}
 		l = append(l, "attach "+idOf(x), "pass "+idOf(x), "held")
 		want = append(want, hex.EncodeToString(y), fmt.Sprintf("1 0 %d", i+1), strings.Join(rows, " "))
-		if i == len(blocks)-2 {
+		if i < 7 && i > 0 {
 			st, _ := s.Stump(i + 1)
 			l = append(l, "roots")
 			want = append(want, fmt.Sprintf("%d %x", st.N, st.Roots[0].H))
@@ -265,7 +270,7 @@ func TestSpends(t *testing.T) {
 	// What is attached to a block that does not stand upon the slim node's tip counts upon nothing held.
 	y, _ := b.Attach(head.Id(blocks[6].Head), nil)
 	l = append(l, "roots", "attach "+idOf(blocks[6]), "coins", "tips")
-	want = append(want, "4 -", hex.EncodeToString(y), "0 0", idOf(blocks[6])+" 7 "+idOf(blocks[6])+" 7")
+	want = append(want, "4 -", hex.EncodeToString(y), "0 0", idOf(blocks[7])+" 8 "+idOf(blocks[7])+" 8")
 	tells(t, l, want)
 }
 

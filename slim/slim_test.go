@@ -81,6 +81,13 @@ func first(c api.Ctx, values ...uint64) api.Block {
 	return mint.Block(c, mint.First(c.Height, mint.Free(values...)...))
 }
 
+// upon answers what stands upon the tip.
+func upon(s *slim.Slim) api.Ctx {
+	blocks := s.Tree()
+	c, _ := blocks.Ctx(blocks.Best())
+	return c
+}
+
 func said(t *testing.T, s *slim.Slim, x []byte, want int, why api.Errno) {
 	t.Helper()
 	r := s.Deliver(x)
@@ -237,6 +244,8 @@ func TestDeliver(t *testing.T) {
 		said(t, s, x[:n], api.SaidForm, api.ErrShort)
 	}
 	said(t, s, []byte{253, 33, 78}, api.SaidForm, api.ErrLimit)
+	said(t, s, ends.Row(make([]byte, api.MaxBlock+1)), api.SaidForm, api.ErrLimit)
+	said(t, s, ends.Row(make([]byte, api.MaxBlock)), api.SaidForm, api.ErrForm)
 	said(t, s, []byte{253, 9, 0}, api.SaidForm, api.ErrForm)
 	said(t, s, []byte{0}, api.SaidForm, api.ErrShort)
 	said(t, s, packed(t, append(text(t, good), 0), nil, api.Proof{}), api.SaidForm, api.ErrForm)
@@ -881,7 +890,10 @@ func TestWhatIsNoSlimNodes(t *testing.T) {
 		return l
 	}
 	upon := func(b api.Block) [][]byte { return [][]byte{text(t, a), text(t, b)} }
-	early, easy, after := b, b, b
+	early, easy, after, idle := b, b, b, b
+	for head.Works(idle.Head) {
+		idle.Head.Nonce++
+	}
 	early.Head.Time = a.Head.Time
 	easy.Head.Bits = 0x207ffffe
 	after.Txs = []api.Tx{mint.First(3, mint.Free(30)...)}
@@ -937,6 +949,7 @@ func TestWhatIsNoSlimNodes(t *testing.T) {
 		{stands{upon(mint.Mined(early)), stumps, other(nil, 2, 0)}, api.ErrForm},
 		{stands{upon(mint.Mined(easy)), stumps, other(nil, 2, 0)}, api.ErrForm},
 		{stands{upon(mint.Mined(after)), stumps, other(nil, 2, 0)}, api.ErrForm},
+		{stands{upon(idle), stumps, other(nil, 2, 0)}, api.ErrForm},
 		{stands{upon(b), stumps, other(nil, 2, 0)}, api.OK},
 		{stands{blocks, with(1, nil), other(nil, 2, 0)}, api.ErrForm},
 		{stands{blocks, with(1, stumps[0]), other(nil, 2, 0)}, api.ErrForm},
@@ -1054,15 +1067,10 @@ func TestFull(t *testing.T) {
 	t.Run("blocks' file", func(t *testing.T) {
 		d := device(t, 64)
 		s, m := open(t, d, 0), mint.NewModel()
-		for filled := 0; filled < 3; {
+		for {
 			c, _ := m.Tree.Ctx(m.Tree.Len() - 1)
 			b := first(c)
-			st, _ := store.Open(d)
-			room := st.Room(api.FileBlocks)
-			if room == len(text(t, b)) {
-				filled++
-			}
-			if room < len(text(t, b)) {
+			if st, _ := store.Open(d); st.Room(api.FileBlocks) < len(text(t, b)) {
 				tooMuch(t, d, s, bare(t, b))
 				break
 			}
@@ -1096,6 +1104,89 @@ func TestFull(t *testing.T) {
 	})
 }
 
+// The edges of its room: what just fits is taken, a byte more is not.
+func TestJustFull(t *testing.T) {
+	put := func(t *testing.T, s *slim.Slim, b api.Block, want int) {
+		t.Helper()
+		if r := s.Deliver(bare(t, b)); r.Said != want {
+			t.Fatalf("Deliver = %v, not %d", r, want)
+		}
+	}
+	full := func(t *testing.T, d *dev.Dev, s *slim.Slim, b api.Block) {
+		t.Helper()
+		writes := d.Writes()
+		put(t, s, b, api.SaidFull)
+		if d.Writes() != writes {
+			t.Error("something was written")
+		}
+	}
+	length := func(d *dev.Dev, file int) int {
+		st, _ := store.Open(d)
+		return st.Length(file)
+	}
+	t.Run("state", func(t *testing.T) {
+		// Ids of 32 bytes, values of 42, and 3 more: there is room for 1008.
+		for _, c := range []struct{ ids, leaves, size int }{{13, 8, 1007}, {17, 7, 1009}} {
+			d := device(t, 64)
+			s := open(t, d, 14)
+			for i := range uint64(c.ids) {
+				put(t, s, first(mint.Begin(), api.Subsidy+1+i), api.SaidRule)
+			}
+			b := first(mint.Begin(), make([]uint64, c.leaves)...)
+			if c.size > 1008 {
+				full(t, d, s, b)
+				continue
+			}
+			put(t, s, b, api.SaidNew)
+			if st, _ := store.Open(d); len(st.State()) != c.size {
+				t.Errorf("the state has %d bytes", len(st.State()))
+			}
+		}
+	})
+	t.Run("blocks", func(t *testing.T) {
+		// Without coins a block is 83 bytes: 33 of these, with the records' heads, leave 69.
+		for _, long := range []int{0, 1} {
+			d := device(t, 64)
+			s := open(t, d, 0)
+			c := mint.Begin()
+			for range 32 {
+				b := first(c)
+				put(t, s, b, api.SaidNew)
+				c = upon(s)
+			}
+			b := mint.Block(c, mint.First(c.Height, api.Out{Lock: make([]byte, 60+long)}))
+			if long > 0 {
+				full(t, d, s, b)
+				continue
+			}
+			put(t, s, b, api.SaidNew)
+			if n := length(d, api.FileBlocks); n != 3*8*128 {
+				t.Errorf("the file of blocks has %d bytes", n)
+			}
+		}
+	})
+	t.Run("stumps", func(t *testing.T) {
+		// 3 stumps without roots, one of 16 leaves, one of 24, 20 of 28: 3 * 9 + 42 + 75 + 20 * 108 bytes.
+		for _, more := range []int{0, 1} {
+			d := device(t, 72)
+			s := open(t, d, 0)
+			c := mint.Begin()
+			for i, many := range append(make([]int, 3+more), append([]int{16, 8, 4}, make([]int, 19)...)...) {
+				b := first(c, make([]uint64, many)...)
+				if i == 25 {
+					full(t, d, s, b)
+					break
+				}
+				put(t, s, b, api.SaidNew)
+				c = upon(s)
+			}
+			if n := length(d, api.FileUndos); n != 2*9*128-99*more {
+				t.Errorf("the file of stumps has %d bytes", n)
+			}
+		}
+	})
+}
+
 // bridgeOf answers a bridge that was handed what the model has.
 func bridgeOf(t *testing.T, m *mint.Model) *bridge.Bridge {
 	t.Helper()
@@ -1113,11 +1204,17 @@ type deed struct {
 	drop int
 }
 
-func (x deed) do(s *slim.Slim) bool {
-	if x.x == nil {
-		return s.Drop(x.drop) == api.OK
+// do answers no, if there was no power for it.
+func (x deed) do(t *testing.T, s *slim.Slim) bool {
+	t.Helper()
+	if x.x != nil {
+		return s.Deliver(x.x).Said != api.SaidPower
 	}
-	return s.Deliver(x.x).Said != api.SaidPower
+	e := s.Drop(x.drop)
+	if e != api.OK && e != api.ErrPower {
+		t.Fatalf("Drop: %d", e)
+	}
+	return e == api.OK
 }
 
 // told is all that a node tells.
@@ -1143,7 +1240,7 @@ func walk(t *testing.T, room int) []deed {
 	s := open(t, device(t, 512), room)
 	var l []deed
 	do := func(x deed) {
-		if !x.do(s) {
+		if !x.do(t, s) {
 			t.Fatal("a deed is not done")
 		}
 		l = append(l, x)
@@ -1187,7 +1284,7 @@ func TestPower(t *testing.T) {
 	writes := []int{d.Writes()}
 	behind := []told{tell(s)}
 	for _, x := range deeds {
-		x.do(s)
+		x.do(t, s)
 		writes = append(writes, d.Writes())
 		behind = append(behind, tell(s))
 	}
@@ -1198,7 +1295,7 @@ func TestPower(t *testing.T) {
 		s := open(t, d, room)
 		d.Cut(after)
 		k := 0
-		for k < len(deeds) && deeds[k].do(s) {
+		for k < len(deeds) && deeds[k].do(t, s) {
 			k++
 		}
 		if k == len(deeds) || after < writes[k] || after >= writes[k+1] {
@@ -1226,7 +1323,7 @@ func TestPower(t *testing.T) {
 		}
 		// It goes on from there as one that never was cut.
 		for i, x := range deeds[k:] {
-			if !x.do(s) || !tell(s).same(behind[k+i+1]) {
+			if !x.do(t, s) || !tell(s).same(behind[k+i+1]) {
 				t.Fatalf("behind a cut: %v, not %v", tell(s), behind[k+i+1])
 			}
 		}
@@ -1282,7 +1379,16 @@ func TestPowerLostMeanwhile(t *testing.T) {
 	// No delivery has met it: when it is there again, all goes on.
 	d.On(0, 0)
 	ok(t, "Drop", s.Drop(0), api.OK)
-	said(t, s, bare(t, first(mint.Upon(a, 1))), api.SaidNew, api.OK)
+	b := first(mint.Upon(a, 1))
+	said(t, s, bare(t, b), api.SaidNew, api.OK)
+	// The stump of its parent cannot be read.
+	d.Cut(0)
+	d.Write(0, make([]byte, api.Sector))
+	c := bare(t, first(mint.Upon(b, 2)))
+	said(t, s, c, api.SaidPower, api.ErrPower)
+	d.On(0, 0)
+	said(t, s, c, api.SaidPower, api.ErrPower)
+	said(t, open(t, d, 0), c, api.SaidNew, api.OK)
 }
 
 // P31.2
