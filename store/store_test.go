@@ -514,6 +514,23 @@ func TestWithoutPower(t *testing.T) {
 	}
 }
 
+// To save is to Sync first, also where nothing of the state is otherwise than it stands.
+func TestSaveSyncs(t *testing.T) {
+	d := some(t, 64)
+	s := open(t, d)
+	ok(t, "Save", s.Save([]byte("state")), api.OK)
+	d.Write(63, bytes.Repeat([]byte{7}, api.Sector))
+	writes := d.Writes()
+	ok(t, "Save", s.Save([]byte("state")), api.OK)
+	if d.Writes() != writes {
+		t.Error("what stands already was written")
+	}
+	d.On(0, 0)
+	if b, _ := d.Read(63); !bytes.Equal(b, bytes.Repeat([]byte{7}, api.Sector)) {
+		t.Error("what was written ahead of Save is not sure")
+	}
+}
+
 // P23.4: wherever the power is cut, whatever is kept and torn.
 func TestPower(t *testing.T) {
 	type step struct {
