@@ -160,9 +160,6 @@ func number[T int | int64 | uint8 | uint32 | uint64](n T) string {
 }
 
 func hex(b []byte) string {
-	if len(b) == 0 {
-		return none
-	}
 	var told strings.Builder
 	for _, x := range b {
 		told.WriteByte(digits[x>>4])

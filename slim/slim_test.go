@@ -1379,16 +1379,31 @@ func TestPowerLostMeanwhile(t *testing.T) {
 	// No delivery has met it: when it is there again, all goes on.
 	d.On(0, 0)
 	ok(t, "Drop", s.Drop(0), api.OK)
-	b := first(mint.Upon(a, 1))
-	said(t, s, bare(t, b), api.SaidNew, api.OK)
-	// The stump of its parent cannot be read.
+	said(t, s, bare(t, first(mint.Upon(a, 1))), api.SaidNew, api.OK)
+}
+
+// A block whose parent's stump cannot be read.
+func TestPowerLostAheadOfAProof(t *testing.T) {
+	w := newSide(t)
+	d := device(t, 512)
+	s := open(t, d, 8)
+	for i := range uint64(5) {
+		b := first(upon(s), i)
+		w.deliver(text(t, b))
+		said(t, s, bare(t, b), api.SaidNew, api.OK)
+	}
+	c := upon(s)
+	coins, _, _ := w.b.Leaves(5)
+	x := w.proving(mint.Block(c, mint.First(c.Height), mint.Spend(coins[:1])), nil)
 	d.Cut(0)
 	d.Write(0, make([]byte, api.Sector))
-	c := bare(t, first(mint.Upon(b, 2)))
-	said(t, s, c, api.SaidPower, api.ErrPower)
+	// What is named ahead of it is said without power, too.
+	said(t, s, bare(t, w.m.Blocks[2]), api.SaidOld, api.ErrTwice)
+	said(t, s, x[:len(x)-1], api.SaidProof, api.ErrProof)
+	said(t, s, x, api.SaidPower, api.ErrPower)
 	d.On(0, 0)
-	said(t, s, c, api.SaidPower, api.ErrPower)
-	said(t, open(t, d, 0), c, api.SaidNew, api.OK)
+	said(t, s, x, api.SaidPower, api.ErrPower)
+	said(t, open(t, d, 0), x, api.SaidNew, api.OK)
 }
 
 // P31.2
